@@ -1,0 +1,6 @@
+"""The numbers by which a call is refused."""
+
+WRONG = -1
+ABSENT = -3
+PRESENT = -4
+FULL = -5
