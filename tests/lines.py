@@ -59,6 +59,23 @@ def to(x):
     return [5, x]
 
 
+def comes_from(y):
+    return [6, y]
+
+
+def way(x, y):
+    return [7, x, y]
+
+
+def needed(x, y):
+    return [8, x, y]
+
+
+TURN = [9]
+ROUNDS = [10]
+EDGES = [11]
+
+
 def nodes(count):
     return [node() for _ in range(count)]
 

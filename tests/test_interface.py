@@ -6,9 +6,12 @@ import unittest
 from tests.lines import HIGHEST
 from waygraph.questions import answers
 
-# node (2); node (); edge 1 1 2; ask forward 1; to 1; to 2; to 3; kinds 2 (1 3); ask kind 3; cut; cut.
-CALLS = [0, 1, 2, 0, 0, 2, 1, 1, 2, 4, 2, 1, 1, 5, 1, 5, 2, 5, 3, 1, 2, 2, 1, 3, 4, 2, 3, 3, 3, 1, 1, 2, 3, 1, 1, 2]
-TOLD = [1, 1, 1, 2, 1, 1, 1, 1, 2, 1, 2, 1, 0, 1, -1, 1, 0, 1, 1, 1, 0, 1, -3]
+# node (2); node (); edge 1 1 2; ask forward 1; to 1; to 2; to 3; comes_from 2; way 1 2; way 2 1; needed 1 2;
+# edges; turn; rounds; way 2 1; kinds 2 (1 3); ask kind 3; rounds; cut; cut; edges.
+CALLS = [0, 1, 2, 0, 0, 2, 1, 1, 2, 4, 2, 1, 1, 5, 1, 5, 2, 5, 3, 6, 2, 7, 1, 2, 7, 2, 1, 8, 1, 2,
+         11, 9, 10, 7, 2, 1, 1, 2, 2, 1, 3, 4, 2, 3, 3, 10, 3, 1, 1, 2, 3, 1, 1, 2, 11]
+TOLD = [1, 1, 1, 2, 1, 1, 1, 1, 2, 1, 2, 1, 0, 1, -1, 2, 1, 1, 3, 1, 2, 2, 1, -3, 4, 1, 1, 1, 2,
+        4, 1, 1, 1, 2, 3, 2, 2, 1, 1, 0, 3, 1, 3, 1, 1, 0, 1, 1, 2, 1, 2, 1, 0, 1, -3, 1, 0]
 
 
 class Interface(unittest.TestCase):
@@ -20,6 +23,12 @@ class Interface(unittest.TestCase):
         self.assertEqual(answers([3, 1, 1, 1]), [1, -3])
         self.assertEqual(answers([4, 1, 0]), [1, 0])
         self.assertEqual(answers([5, 1]), [1, -1])
+        self.assertEqual(answers([6, 1]), [1, -1])
+        self.assertEqual(answers([7, 1, 1]), [1, -1])
+        self.assertEqual(answers([8, 1, 1]), [1, -1])
+        self.assertEqual(answers([9]), [2, 1, 0])
+        self.assertEqual(answers([10]), [1, 0])
+        self.assertEqual(answers([11]), [1, 0])
 
     def test_several_one_behind_another(self):
         self.assertEqual(answers(CALLS), TOLD)
@@ -38,8 +47,9 @@ class Interface(unittest.TestCase):
 
     def test_the_highest_numbers(self):
         high = HIGHEST
-        calls = [0, 1, high, 1, high, 1, high, 2, high, high, high, 3, high, high, high, 4, 1, high, 5, high]
-        self.assertEqual(answers(calls), [1, -1, 1, -1, 1, -1, 1, -3, 1, -1, 1, -1])
+        calls = [0, 1, high, 1, high, 1, high, 2, high, high, high, 3, high, high, high, 4, 1, high, 5, high,
+                 6, high, 7, high, high, 8, high, high]
+        self.assertEqual(answers(calls), [1, -1, 1, -1, 1, -1, 1, -3, 1, -1, 1, -1, 1, -1, 1, -1, 1, -1])
 
     def test_the_longest_list(self):
         calls = ([4, 70] + [7] * 70) * 40
@@ -63,6 +73,7 @@ class Interface(unittest.TestCase):
         self.assertEqual(answers(CALLS), answers(CALLS))
         self.assertEqual(answers([0, 0, 5, 1]), [1, 1, 2, 1, 1])
         self.assertEqual(answers([5, 1]), [1, -1])
+        self.assertEqual(answers([11, 9]), [1, 0, 2, 1, 0])
 
     def test_what_is_given_back_is_a_list_of_its_own(self):
         first = answers(CALLS)

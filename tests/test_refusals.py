@@ -2,8 +2,8 @@
 
 import unittest
 
-from tests.lines import (HIGHEST, STAY, again, ask, cut, edge, either, forward, has, in_order, kinds, last, node,
-                         nodes, of_kind, to)
+from tests.lines import (EDGES, HIGHEST, STAY, TURN, again, ask, comes_from, cut, edge, either, forward, has, in_order,
+                         kinds, last, needed, node, nodes, of_kind, to, way)
 
 GRAPH = [node(1), node(2), node(1, 3), edge(1, 1, 2), edge(2, 1, 3), edge(3, 2, 3)]
 QUESTION = again(either(forward(1), in_order(of_kind(3), has(forward(2)))))
@@ -34,18 +34,30 @@ REFUSED = [
     (to(0), -1),
     (to(4), -1),
     (to(HIGHEST), -1),
+    (comes_from(0), -1),
+    (comes_from(4), -1),
+    (comes_from(HIGHEST), -1),
+    (way(0, 1), -1),
+    (way(1, 4), -1),
+    (way(HIGHEST, HIGHEST), -1),
+    (way(3, 1), -3),
+    (needed(4, 1), -1),
+    (needed(1, 0), -1),
+    (needed(HIGHEST, 2), -1),
+    (needed(2, 1), -3),
 ]
 
 
 def looks():
-    """Calls that show the question first, then all nodes, kinds and edges, and how many edges there are."""
-    calls = [to(1), to(2), to(3)]
+    """Calls that show edges and question first, then all nodes and kinds, and how many edges and nodes there are."""
+    calls = [EDGES, to(1), to(2), to(3), TURN]
     for code in [STAY, of_kind(1), of_kind(2), of_kind(3), forward(1), forward(2)]:
         calls.append(ask(code))
     return calls + [to(1), to(2), to(3), edge(3, 5, 1), node()]
 
 
-SEEN = [[3, 1, 2, 3], [2, 2, 3], [1, 3], [3], [2], [1], [1], [2], [1], [0], [0], [1, 3], [4], [4]]
+SEEN = [[3, 1, 1, 2, 2, 1, 3, 3, 2, 3], [3, 1, 2, 3], [2, 2, 3], [1, 3], [10, 6, 5, 2, 1, 4, 7, 1, 2, 3, 3],
+        [3], [2], [1], [1], [2], [1], [0], [0], [1, 3], [4], [4]]
 
 
 class Refusals(unittest.TestCase):

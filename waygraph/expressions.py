@@ -65,3 +65,34 @@ def parts_of(code):
     if wanted > 0 or place < len(code):
         return None
     return parts
+
+
+def code_of(parts):
+    """The code of the expression that is told by parts."""
+    code = []
+    for part in parts:
+        code.extend(part)
+    return code
+
+
+def folded(parts, of_plain, of_one, of_two):
+    """What the expression that is told by parts comes to.
+
+    of_plain(part) tells it for a part that has no codes within it, of_one(sort, within) and
+    of_two(sort, first, second) for the others, from what the codes within them come to.
+    """
+    # From the end, the codes within an expression come ahead of it, the first of two last;
+    # so a loop is enough, however deep they are nested.
+    done = []
+    for part in reversed(parts):
+        sort = part[0]
+        within = codes_within(sort)
+        if within == 0:
+            done.append(of_plain(part))
+        elif within == 1:
+            done.append(of_one(sort, done.pop()))
+        else:
+            first = done.pop()
+            second = done.pop()
+            done.append(of_two(sort, first, second))
+    return done.pop()

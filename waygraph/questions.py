@@ -56,8 +56,37 @@ def answer_to(line, reader):
     return line.led_to(reader.number())
 
 
+def answer_comes_from(line, reader):
+    return line.led_from(reader.number())
+
+
+def answer_way(line, reader):
+    x = reader.number()
+    y = reader.number()
+    return line.way(x, y)
+
+
+def answer_needed(line, reader):
+    x = reader.number()
+    y = reader.number()
+    return line.needed(x, y)
+
+
+def answer_turn(line, reader):
+    return line.turn()
+
+
+def answer_rounds(line, reader):
+    return line.rounds()
+
+
+def answer_edges(line, reader):
+    return line.edges()
+
+
 # A call's number is its place here.
-CALLS = (answer_node, answer_kinds, answer_edge, answer_cut, answer_ask, answer_to)
+CALLS = (answer_node, answer_kinds, answer_edge, answer_cut, answer_ask, answer_to, answer_comes_from, answer_way,
+         answer_needed, answer_turn, answer_rounds, answer_edges)
 
 
 def answers(calls):

@@ -4,7 +4,7 @@ A relation is a list with a row for each node, in their order. A row is a whole 
 bits are the nodes that are led to: the lowest bit is node 1, the next one node 2, and so on.
 """
 
-from waygraph.expressions import AGAIN, FORWARD, IN_ORDER, KIND, STAY, codes_within
+from waygraph.expressions import AGAIN, FORWARD, IN_ORDER, KIND, STAY, folded
 
 
 def bit_of(node):
@@ -66,17 +66,20 @@ def has(rows):
     return [bit_of(node) if row != 0 else 0 for node, row in enumerate(rows, start=1)]
 
 
+def pairs_by(part, edges):
+    """From where to where each edge leads that the part, forward or backward, goes."""
+    if part[0] == FORWARD:
+        return [(x, y) for x, a, y in edges if a == part[1]]
+    return [(y, x) for x, a, y in edges if a == part[1]]
+
+
 def relation_of_plain(part, node_kinds, edges):
     """The relation of a part that has no codes within it."""
-    sort = part[0]
-    if sort == STAY:
+    if part[0] == STAY:
         return stay(len(node_kinds))
-    if sort == KIND:
+    if part[0] == KIND:
         return of_kind(node_kinds, part[1])
-    pairs = [(x, y) for x, a, y in edges if a == part[1]]
-    if sort == FORWARD:
-        return steps(len(node_kinds), pairs)
-    return steps(len(node_kinds), [(y, x) for x, y in pairs])
+    return steps(len(node_kinds), pairs_by(part, edges))
 
 
 def relation_of_one(sort, rows):
@@ -93,18 +96,8 @@ def relation_of_two(sort, first, second):
 
 def relation_of(parts, node_kinds, edges):
     """The relation of the expression that is told by parts."""
-    # From the end, the codes within an expression come ahead of it, the first of two last;
-    # so a loop is enough, however deep they are nested.
-    done = []
-    for part in reversed(parts):
-        sort = part[0]
-        within = codes_within(sort)
-        if within == 0:
-            done.append(relation_of_plain(part, node_kinds, edges))
-        elif within == 1:
-            done.append(relation_of_one(sort, done.pop()))
-        else:
-            first = done.pop()
-            second = done.pop()
-            done.append(relation_of_two(sort, first, second))
-    return done.pop()
+    return folded(parts, lambda part: relation_of_plain(part, node_kinds, edges), relation_of_one, relation_of_two)
+
+
+def has_pair(relation, x, y):
+    return relation[x - 1] & bit_of(y) != 0
